@@ -1,0 +1,1 @@
+"""Namelessly: what webs without names can tell apart."""

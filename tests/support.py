@@ -1,0 +1,112 @@
+"""What several test files use."""
+
+import copy
+import random
+
+from namelessly.webs import Web
+
+# Values that stand where something else is asked for; none of them is a word, a place or a tie.
+ODD_VALUES = [
+    True, False, None, 0, 1, -1, 10 ** 39, "", " ", "A", "aB", "a b", "a-b", "1", "1a", "a1b", "a\n", "a1\n", "\na",
+    "a\t", "abcdefghi", "abcdefghi1", "a12345", "abcdefgh12345", "~", [], ["a"], ["a", ["b"]], (), ("a",),
+    ("a", "b"), ("a", ["b", {"c": [1]}]), {}, {"a": "b"}, {"a": ["b"]}, {(1, "x"): [[]]}, [[[{"k": ([],)}]]],
+]
+
+WORDS = ["a", "z", "abcdefgh", "a0", "a1234", "abcdefgh0000", "p10", "place", "tie", "none"]
+
+
+def odd_values():
+    """New ones each time, so that a test may change them."""
+    return copy.deepcopy(ODD_VALUES) + [Web([("a", "x")], [])]
+
+
+def strict(value):
+    """A text that two values share only if they are equal and of one kind throughout."""
+    if isinstance(value, dict):
+        return "{" + ",".join(sorted(strict(k) + ":" + strict(v) for k, v in value.items())) + "}"
+    if isinstance(value, (list, tuple)):
+        return type(value).__name__ + "(" + ",".join(strict(part) for part in value) + ")"
+    if isinstance(value, Web):
+        return "Web" + strict([[(p, value.colour(p)) for p in value.places()], value.ties()])
+    return type(value).__name__ + ":" + repr(value)
+
+
+def containers(value):
+    """All lists and dicts within a value, the value itself included."""
+    found = [value] if isinstance(value, (list, dict)) else []
+    parts = value.values() if isinstance(value, dict) else value if isinstance(value, (list, tuple)) else []
+    for part in parts:
+        found.extend(containers(part))
+    return found
+
+
+class Checks:
+    """Mixed into a TestCase."""
+
+    def same(self, got, wanted):
+        self.assertEqual(strict(got), strict(wanted))
+
+    def refuses(self, kind, value, call, *args, **more):
+        """The call raises just this error, with this value as its only attribute, of which it keeps no list."""
+        before = strict(args)
+        handed = [id(part) for part in containers(args)] + [id(part) for part in containers(more)]
+        with self.assertRaises(kind) as caught:
+            call(*args, **more)
+        error = caught.exception
+        self.assertIs(type(error), kind)
+        self.assertEqual(strict(args), before)
+        self.assertEqual(strict(list(vars(error).values())), strict([value]))
+        for part in containers(list(vars(error).values())) + containers(error.args):
+            self.assertNotIn(id(part), handed)
+
+    def fresh(self, call, *args, **more):
+        """The call changes no argument, and tells lists and dicts that are new and all unlike; returns the result."""
+        before = strict(args)
+        handed = [id(part) for part in containers(args)] + [id(part) for part in containers(more)]
+        first = call(*args, **more)
+        told = strict(first)
+        self.assertEqual(strict(args), before)
+        second = call(*args, **more)
+        self.assertEqual(strict(second), told)
+        found = [id(part) for part in containers(first)] + [id(part) for part in containers(second)]
+        self.assertEqual(len(found), len(set(found)))
+        self.assertFalse(set(found) & set(handed))
+        for part in containers(first):
+            part.clear()
+        self.assertEqual(strict(args), before)
+        self.assertEqual(strict(call(*args, **more)), told)
+        return second
+
+
+def path(many, colour="x", kind="k", width=1):
+    """A row of places a, b, .., each tied to the next one."""
+    names = "abcdefghij"[:many]
+    return Web([(name, colour) for name in names], [(p, q, kind, width) for p, q in zip(names, names[1:])])
+
+
+def ring(many, colour="x", kind="k", width=1):
+    """A row of at least three places whose last one is tied to the first one."""
+    names = "abcdefghij"[:many]
+    ties = [(p, q, kind, width) for p, q in zip(names, names[1:])] + [(names[-1], names[0], kind, width)]
+    return Web([(name, colour) for name in names], ties)
+
+
+def random_web(source, most=5, colours="xyz", kinds=("k", "l"), widest=2):
+    """A web as callers make up, from a random source with a told seed."""
+    names = source.sample(["a", "b", "c", "d", "e", "p0", "p10", "p2"], source.randint(1, most))
+    palette = colours[:source.randint(1, len(colours))]
+    density = source.choice([0.2, 0.4, 0.7])
+    ties = []
+    for at, one in enumerate(names):
+        for other in names[at + 1:]:
+            for kind in kinds:
+                if source.random() < density:
+                    ends = source.choice([(one, other), (other, one)])
+                    ties.append(ends + (kind, source.randint(1, widest)))
+    source.shuffle(ties)
+    return Web([(name, source.choice(palette)) for name in names], ties)
+
+
+def random_webs(seed, many, **more):
+    source = random.Random(seed)
+    return [random_web(source, **more) for _ in range(many)]
