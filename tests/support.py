@@ -110,3 +110,44 @@ def random_web(source, most=5, colours="xyz", kinds=("k", "l"), widest=2):
 def random_webs(seed, many, **more):
     source = random.Random(seed)
     return [random_web(source, **more) for _ in range(many)]
+
+
+def plain_rounds(webs, k):
+    """Rounds 0 to k of a list of webs, word by word as point 2.1 tells them."""
+    colours = sorted({web.colour(p) for web in webs for p in web.places()})
+    kinds = sorted({tie[2] for web in webs for tie in web.ties()})
+    told = [[[colours.index(web.colour(p)) for p in web.places()] for web in webs]]
+    for _ in range(k):
+        last = told[-1]
+        classes = sorted({number for numbers in last for number in numbers})
+        keys = []
+        for web, numbers in zip(webs, last):
+            class_of = dict(zip(web.places(), numbers))
+            keys.append([
+                (class_of[p], tuple(sum(web.width(p, r, kind) for r in web.places() if class_of[r] == number)
+                                    for kind in kinds for number in classes))
+                for p in web.places()
+            ])
+        order = sorted({key for row in keys for key in row})
+        told.append([[order.index(key) for key in row] for row in keys])
+    return told
+
+
+def count(colouring):
+    """How many classes a colouring of a list of webs has."""
+    return len({number for numbers in colouring for number in numbers})
+
+
+def plain_settling(webs):
+    told = plain_rounds(webs, sum(len(web) for web in webs))
+    return next(k for k in range(len(told)) if count(told[k]) == count(told[k + 1]))
+
+
+def turned(web, many, turns):
+    """A web over this one, many over each place, and the folding: the copies of each tie are turned."""
+    places = web.places()
+    names = {(p, u): f"p{places.index(p) * many + u}" for p in places for u in range(many)}
+    ties = [(names[(p, u)], names[(q, (u + turn) % many)], kind, width)
+            for (p, q, kind, width), turn in zip(web.ties(), turns) for u in range(many)]
+    over = Web([(names[spot], web.colour(spot[0])) for spot in names], ties)
+    return over, {name: spot[0] for spot, name in names.items()}

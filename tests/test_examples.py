@@ -18,6 +18,45 @@ EXAMPLES = r'''
 'place ann red\nplace bob blue\nplace cid red\ntie ann bob knows 1\ntie bob cid knows 2'
 >>> read_web("place a x\nplace b x\ntie b a k 3").ties()
 [('a', 'b', 'k', 3)]
+
+>>> from namelessly.rounds import class_count, rounds, settled, settling_round
+>>> from namelessly.webs import Web
+>>> THREE = Web([("x", "o"), ("y", "o"), ("z", "o")], [("x", "y", "c", 1), ("y", "z", "c", 1)])
+>>> FOUR = Web([("a", "o"), ("b", "o"), ("d", "o"), ("e", "o")], [("a", "b", "c", 1), ("b", "d", "c", 1), ("d", "e", "c", 1)])
+>>> rounds([THREE, FOUR], 2)
+[[[0, 0, 0], [0, 0, 0, 0]], [[0, 1, 0], [0, 1, 1, 0]], [[0, 2, 0], [0, 1, 1, 0]]]
+>>> [settling_round([THREE, FOUR]), settled([THREE, FOUR]), settling_round([THREE]), class_count([THREE, FOUR], 1)]
+[3, [[0, 3, 0], [1, 2, 2, 1]], 1, 2]
+
+>>> from namelessly.kin import alike, apart_at, kin, separating_round, shares
+>>> [alike(THREE, "x", FOUR, "a", 2), alike(THREE, "x", FOUR, "a", None), apart_at(THREE, "x", FOUR, "a"), apart_at(THREE, "x", THREE, "z")]
+[True, False, 3, None]
+>>> [kin(THREE, FOUR, 0), kin(THREE, FOUR, None), separating_round(THREE, FOUR), shares(THREE, FOUR, 1)]
+[True, False, 1, [(2, 2), (1, 2)]]
+
+>>> from namelessly.balanced import coarsest, common_coarser, judge_balanced, numbered, refines, table
+>>> [judge_balanced(THREE, [0, 1, 0]), judge_balanced(THREE, [0, 0, 1]), judge_balanced(THREE, [0, 2, 0]), table(THREE, [0, 1, 0])]
+[None, ('sum', 'x', 'y', 'c'), ('form',), {(0, 'c', 1): 1, (1, 'c', 0): 2}]
+>>> [coarsest(FOUR, [0, 0, 0, 0]), coarsest(FOUR, [0, 1, 1, 1]), refines([0, 1, 2], [0, 1, 0]), numbered(THREE, ["u", None, "u"])]
+[[0, 1, 1, 0], [0, 1, 2, 3], True, [0, 1, 0]]
+>>> [coarsest(Web([("u", "x"), ("v", "y")], []), [0, 0]), judge_balanced(THREE, [1, 0, 1]), numbered(THREE, [1, True, 1])]
+[[0, 1], None, [0, 1, 0]]
+
+>>> from namelessly.foldings import behind, is_onto, is_spread, judge_folding, led_down, led_up, places_over, way_product, ways_up
+>>> from namelessly.webs import Web
+>>> THREE = Web([("a", "x"), ("b", "x"), ("c", "x")], [("a", "b", "k", 1), ("b", "c", "k", 1), ("a", "c", "k", 1)])
+>>> SIX = Web([(name, "x") for name in "abcdef"], [("a", "b", "k", 1), ("b", "c", "k", 1), ("c", "d", "k", 1), ("d", "e", "k", 1), ("e", "f", "k", 1), ("f", "a", "k", 1)])
+>>> F = {"a": "a", "b": "b", "c": "c", "d": "a", "e": "b", "f": "c"}
+>>> [judge_folding(SIX, THREE, F), judge_folding(SIX, THREE, {**F, "d": "b"}), judge_folding(SIX, THREE, [F]), judge_folding(THREE, SIX, {"a": "a", "b": "b"})]
+[None, ('width', 'c', 'a', 'k'), ('form',), ('missing', 'c')]
+>>> [places_over(SIX, THREE, F), is_onto(SIX, THREE, F), is_spread(SIX, THREE, F)]
+[{'a': ['a', 'd'], 'b': ['b', 'e'], 'c': ['c', 'f']}, True, True]
+>>> behind(F, {"a": "b", "b": "c", "c": "a"})
+{'a': 'b', 'b': 'c', 'c': 'a', 'd': 'b', 'e': 'c', 'f': 'a'}
+>>> [led_up(SIX, THREE, F, [0, 1, 1]), led_down(SIX, THREE, F, [0, 1, 1, 0, 1, 1]), led_down(SIX, THREE, F, [0, 1, 2, 3, 1, 2])]
+[[0, 1, 1, 0, 1, 1], [0, 1, 1], None]
+>>> [ways_up(SIX, THREE, F, ("a", "k", "b", "k", "a"), "d"), ways_up(SIX, THREE, F, ("c",), "f"), way_product(THREE, ("a", "k", "c"))]
+[[('d', 'k', 'e', 'k', 'd')], [('f',)], 1]
 '''
 
 

@@ -10,6 +10,20 @@ FUNCTIONS = {
         "copies(web, many, *, most_places=240)", "within(web, names)",
     ],
     "texts": ["web_text(web)", "read_web(text)"],
+    "rounds": ["rounds(webs, k)", "settled(webs)", "settling_round(webs)", "class_count(webs, k)"],
+    "kin": [
+        "alike(one, p, other, q, k)", "apart_at(one, p, other, q)", "kin(one, other, k)",
+        "separating_round(one, other)", "shares(one, other, k)",
+    ],
+    "balanced": [
+        "judge_balanced(web, value)", "table(web, colouring)", "numbered(web, value)", "refines(first, last)",
+        "coarsest(web, colouring)", "common_coarser(web, first, last)",
+    ],
+    "foldings": [
+        "judge_folding(over, web, value)", "places_over(over, web, folding)", "is_onto(over, web, folding)",
+        "is_spread(over, web, folding)", "behind(first, last)", "led_up(over, web, folding, colouring)",
+        "led_down(over, web, folding, colouring)", "way_product(web, way)", "ways_up(over, web, folding, way, start)",
+    ],
 }
 METHODS = {
     ("webs", "Web"): [
