@@ -193,8 +193,7 @@ def copies(web, many, *, most_places=240):
 def within(web, names):
     """The web of the places in a list, in the order of web, and of all ties between two of them."""
     need_names(web, names)
-    if len(names) == 0:
-        raise BadNumber(0)
+    # An empty list leaves no place, which Web itself refuses by the right error.
     inside = {name: True for name in names}
     places = [(name, web.colour(name)) for name in web.places() if name in inside]
     return Web(places, [tie for tie in web.ties() if tie[0] in inside and tie[1] in inside])

@@ -53,9 +53,20 @@ class RoundsTest(Checks, unittest.TestCase):
         web = Web([(name, "x") for name in "abcde"], ties)
         # Kind j ahead of kind k: c and d hear nothing of j, then e; what hears j comes last.
         self.same(rounds([web], 1)[1], [[2, 3, 1, 1, 0]])
+        kinds = ["p9", "z", "b", "p10", "a", "p2"]
+        for first in kinds:
+            for last in kinds:
+                webs = [path(2, kind=first), path(2, kind=last)]
+                # What hears the lesser kind has its sum ahead in the row, so it comes last.
+                self.same(rounds(webs + [path(2, kind="p1")], 1)[1],
+                          [[number, number] for number in self.behind_each([first, last, "p1"])])
         # A sum that is there at an earlier class counts more than a greater one behind.
         web = Web([("a", "x"), ("b", "x"), ("c", "y"), ("d", "z")], [("a", "c", "k", 1), ("b", "d", "k", 9)])
         self.same(rounds([web], 1)[1], [[1, 0, 2, 3]])
+
+    def behind_each(self, kinds):
+        """For each kind how many greater ones are in the list."""
+        return [len({other for other in kinds if other > kind}) for kind in kinds]
 
     def test_kinds_that_one_web_alone_has(self):
         one = path(2, kind="j")

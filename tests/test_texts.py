@@ -38,7 +38,8 @@ class TextsTest(Checks, unittest.TestCase):
         for line in [
             "", " ", "place", "tie", "place d", "place d x y", "place  d x", "place d  x", " place d x", "place d x ",
             "Place d x", "places d x", "plac d x", "d x", "place D x", "place d X", "place 1 x", "place d 1",
-            "place abcdefghi x", "place d a12345", "place d ~", "place -d x", "placed x",
+            "place abcdefghi x", "place d a12345", "place d ~", "place -d x", "placed x", "place d ", "place  x",
+            "tie a b j ", "tie a b  1", "tie  b j 1",
             "tie a b", "tie a b j", "tie a b j 1 1", "tie  a b j 1", "tie a b  j 1", "tie a b j  1", " tie a b j 1",
             "tie a b j 1 ", "Tie a b j 1", "ties a b j 1", "a b j 1", "tie a b J 1", "tie a b 1 1", "tie a b ij- 1",
             "tie a b j 0", "tie a b j 00", "tie a b j 01", "tie a b j +1", "tie a b j -1", "tie a b j 1.0",

@@ -107,6 +107,11 @@ class AskingTest(Checks, unittest.TestCase):
         web = Web([("a", "p2"), ("b", "p10")], [("a", "b", "k2", 1), ("a", "b", "k10", 1)])
         self.assertEqual((web.kinds(), web.colours()), (["k10", "k2"], ["p10", "p2"]))
         self.assertEqual([tie[2] for tie in web.ties()], ["k10", "k2"])
+        words = ["p9", "z", "b", "p10", "a", "p2", "ab", "c"]
+        web = Web([(word, word) for word in words], [("z", "b", word, 1) for word in words])
+        self.assertEqual(web.colours(), ["a", "ab", "b", "c", "p10", "p2", "p9", "z"])
+        self.assertEqual(web.kinds(), web.colours())
+        self.assertEqual([tie[2] for tie in web.ties()], web.kinds())
 
     def test_a_place_alone(self):
         web = Web([("a", "x")], [])
