@@ -14,9 +14,14 @@ def is_word(value):
     return all([letter in LETTERS for letter in letters])
 
 
+def is_integer(value):
+    """Whether a value is an integer; True and False are none."""
+    return isinstance(value, int) and not isinstance(value, bool)
+
+
 def is_number(value, least):
     """Whether a value is an integer from least on; True and False are none."""
-    return isinstance(value, int) and not isinstance(value, bool) and value >= least
+    return is_integer(value) and value >= least
 
 
 def kept(value):

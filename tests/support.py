@@ -3,7 +3,7 @@
 import copy
 import random
 
-from namelessly.webs import Web
+from namelessly.webs import Web, beside, copies
 
 # Values that stand where something else is asked for; none of them is a word, a place or a tie.
 ODD_VALUES = [
@@ -151,3 +151,72 @@ def turned(web, many, turns):
             for (p, q, kind, width), turn in zip(web.ties(), turns) for u in range(many)]
     over = Web([(names[spot], web.colour(spot[0])) for spot in names], ties)
     return over, {name: spot[0] for spot, name in names.items()}
+
+
+def plain_fault(over, web, value):
+    """What judge_folding tells of a dict of strings to strings, word by word as point 3.1 does."""
+    for name in over.places():
+        if name not in value:
+            return ("missing", name)
+    for key in sorted(value):
+        if key not in over.places():
+            return ("strange", key)
+    for name in over.places():
+        if value[name] not in web.places():
+            return ("unknown", name)
+    for name in over.places():
+        if over.colour(name) != web.colour(value[name]):
+            return ("colour", name)
+    for name in over.places():
+        for place in web.places():
+            for kind in sorted(set(over.kinds()) | set(web.kinds())):
+                come = sum(over.width(name, end, kind) for end in over.places() if value[end] == place)
+                if come != web.width(place, value[name], kind):
+                    return ("width", name, place, kind)
+    return None
+
+
+def shuffled(source, web):
+    """The web with its places in another order, and with other names."""
+    places = web.places()
+    source.shuffle(places)
+    new = dict(zip(places, source.sample(["a", "b", "c", "d", "e", "f", "g", "h", "p0", "p10", "p2", "z"], len(places))))
+    return Web([(new[name], web.colour(name)) for name in places],
+               [(new[one], new[other], kind, width) for one, other, kind, width in web.ties()])
+
+
+def kin_pairs(seed, many, most=8):
+    """Pairs of kin webs of at most so many places each, of several kinds, widths, colours and components."""
+    source = random.Random(seed)
+    both, _ = beside([ring(3), path(2, width=2)])
+    pairs = [
+        (path(2, width=2), ring(3)), (ring(3), ring(4)), (both, ring(4)), (both, both), (ring(6), beside([ring(3)] * 2)[0]),
+        (path(1), Web([("a", "x"), ("b", "x")], [])), (path(4), copies(path(4), 2)[0]), (path(3), path(3)),
+        (Web([("b", "y"), ("a", "x")], []), Web([("c", "x"), ("d", "y"), ("e", "x"), ("f", "y")], [])),
+    ]
+    while len(pairs) < many:
+        web = random_web(source, most=source.choice([2, 3, 4, most]), widest=source.choice([1, 2, 5]))
+        sides = [source.randint(1, max(1, most // len(web))) for _ in range(2)]
+        made = [turned(web, copied, [source.randint(0, 3) for _ in web.ties()])[0] for copied in sides]
+        if max(len(side) for side in made) <= most:
+            pairs.append((shuffled(source, made[0]), shuffled(source, made[1])))
+    return pairs
+
+
+def webs_that_are_not_kin(seed, many, most=8):
+    """Pairs of webs, some of them parted late only."""
+    webs = random_webs(seed, many, most=most, colours="x", kinds=("k",)) + random_webs(seed + 1, many, most=most)
+    pairs = list(zip(webs, webs[1:])) + [
+        (beside([path(4), ring(4)])[0], beside([ring(3), path(5)])[0]), (path(3), path(4)), (path(2), path(2, width=2)),
+        (path(2), path(2, kind="j")), (path(1), path(1, colour="y")), (path(4), path(5)), (ring(5), path(5)),
+    ]
+    return [(one, other) for one, other in pairs if not plain_kin(one, other, 16)]
+
+
+def plain_shares(one, other, k):
+    first, last = plain_rounds([one, other], k)[k]
+    return [(first.count(number), last.count(number)) for number in range(max(first + last) + 1)]
+
+
+def plain_kin(one, other, k):
+    return all(n * len(other) == m * len(one) for n, m in plain_shares(one, other, k))

@@ -57,6 +57,39 @@ EXAMPLES = r'''
 [[0, 1, 1, 0, 1, 1], [0, 1, 1], None]
 >>> [ways_up(SIX, THREE, F, ("a", "k", "b", "k", "a"), "d"), ways_up(SIX, THREE, F, ("c",), "f"), way_product(THREE, ("a", "k", "c"))]
 [[('d', 'k', 'e', 'k', 'd')], [('f',)], 1]
+
+>>> from namelessly.turns import turned_copies
+>>> over, folding = turned_copies(THREE, 2, [0, 1, 0])
+>>> [over.places(), folding, judge_folding(over, THREE, folding)]
+[['p0', 'p1', 'p2', 'p3', 'p4', 'p5'], {'p0': 'a', 'p1': 'a', 'p2': 'b', 'p3': 'b', 'p4': 'c', 'p5': 'c'}, None]
+>>> [over.width("p0", "p2", "k"), over.width("p0", "p4", "k"), over.width("p0", "p5", "k"), over.width("p1", "p4", "k")]
+[1, 0, 1, 1]
+
+>>> from namelessly.overs import judge_over, over_number, pairs_over, web_over
+>>> TIE = Web([("x", "o"), ("y", "o")], [("x", "y", "c", 2)])
+>>> RING = Web([("p", "o"), ("q", "o"), ("r", "o")], [("p", "q", "c", 1), ("q", "r", "c", 1), ("p", "r", "c", 1)])
+>>> [over_number(TIE, RING), over_number(RING, TIE), over_number(THREE, FOUR), web_over(THREE, FOUR), judge_over(TIE, RING, web_over(TIE, RING))]
+[12, 12, None, None, None]
+>>> judge_over(TIE, RING, web_over(TIE, RING, most_places=12)) is None
+True
+>>> web_over(TIE, RING, most_places=11)
+Traceback (most recent call last):
+namelessly.errors.TooMany
+>>> SELF = (RING, {"p": "p", "q": "q", "r": "r"}, {"p": "q", "q": "p", "r": "r"})
+>>> [judge_over(RING, RING, SELF), pairs_over(SELF), judge_over(RING, RING, SELF[:2])]
+[None, {('p', 'q'): 1, ('q', 'p'): 1, ('r', 'r'): 1}, ('form',)]
+
+>>> from namelessly.weights import added_weights, colours_of, judge_weights, lessened, turned_over, weight_table, weights_behind, weights_of_over
+>>> weight_table(THREE, SIX)
+((1, 1, 1, 1, 1, 1), (1, 1, 1, 1, 1, 1), (1, 1, 1, 1, 1, 1))
+>>> STAR = Web([(name, "x") for name in "abcde"], [("a", "b", "k", 1), ("a", "c", "k", 1), ("a", "d", "k", 1), ("a", "e", "k", 1)])
+>>> [judge_weights(THREE, SIX, ((1,) * 6,) * 3), judge_weights(THREE, STAR, ((2, 1, 1, 1, 1),) * 3), weight_table(THREE, STAR)]
+[None, ('columns', 'b'), None]
+>>> X = weights_of_over(THREE, SIX, (SIX, F, {name: name for name in "abcdef"}))
+>>> [X, judge_weights(THREE, SIX, X), colours_of(X)]
+[((1, 0, 0, 1, 0, 0), (0, 1, 0, 0, 1, 0), (0, 0, 1, 0, 0, 1)), None, ([0, 1, 2], [0, 1, 2, 0, 1, 2])]
+>>> [weights_behind(X, turned_over(X)), lessened(weights_behind(X, turned_over(X))), added_weights(X, X)[0]]
+[((2, 0, 0), (0, 2, 0), (0, 0, 2)), ((1, 0, 0), (0, 1, 0), (0, 0, 1)), (2, 0, 0, 2, 0, 0)]
 '''
 
 

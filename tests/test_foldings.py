@@ -10,7 +10,7 @@ from namelessly.foldings import (
     behind, is_onto, is_spread, judge_folding, led_down, led_up, places_over, way_product, ways_up,
 )
 from namelessly.webs import Web, beside, coloured, copies, renamed
-from tests.support import Checks, odd_values, path, random_webs, ring, turned
+from tests.support import Checks, odd_values, path, plain_fault, random_webs, ring, turned
 
 THREE = ring(3)
 SIX = ring(6)
@@ -18,29 +18,6 @@ ROUND = {"a": "a", "b": "b", "c": "c", "d": "a", "e": "b", "f": "c"}
 # Two components, and a web that lies over the first one alone.
 PARTS = Web([("b", "x"), ("a", "x"), ("c", "y")], [("a", "b", "k", 2)])
 RING_TO_PARTS = {"a": "a", "b": "b", "c": "a", "d": "b"}
-
-
-def plain_fault(over, web, value):
-    """What judge_folding tells of a dict of strings to strings, word by word as point 3.1 does."""
-    for name in over.places():
-        if name not in value:
-            return ("missing", name)
-    for key in sorted(value):
-        if key not in over.places():
-            return ("strange", key)
-    for name in over.places():
-        if value[name] not in web.places():
-            return ("unknown", name)
-    for name in over.places():
-        if over.colour(name) != web.colour(value[name]):
-            return ("colour", name)
-    for name in over.places():
-        for place in web.places():
-            for kind in sorted(set(over.kinds()) | set(web.kinds())):
-                come = sum(over.width(name, end, kind) for end in over.places() if value[end] == place)
-                if come != web.width(place, value[name], kind):
-                    return ("width", name, place, kind)
-    return None
 
 
 def some_foldings(seed, many):

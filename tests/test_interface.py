@@ -24,6 +24,17 @@ FUNCTIONS = {
         "is_spread(over, web, folding)", "behind(first, last)", "led_up(over, web, folding, colouring)",
         "led_down(over, web, folding, colouring)", "way_product(web, way)", "ways_up(over, web, folding, way, start)",
     ],
+    "turns": ["turned_copies(web, many, turns, *, most_places=240)"],
+    "overs": [
+        "judge_over(one, other, value)", "over_number(one, other)", "web_over(one, other, *, most_places=240)",
+        "turned_paper(paper)", "folding_paper(web, folding)", "paper_behind(paper, first, last)",
+        "component_paper(paper, place)", "pairs_over(paper)",
+    ],
+    "weights": [
+        "judge_weights(one, other, value)", "weight_table(one, other)", "weights_behind(first, last)",
+        "turned_over(table)", "added_weights(first, last)", "lessened(table)", "colours_of(table)",
+        "weights_of_over(one, other, over)",
+    ],
 }
 METHODS = {
     ("webs", "Web"): [

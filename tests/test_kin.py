@@ -5,18 +5,9 @@ import unittest
 from namelessly.errors import UnknownName
 from namelessly.kin import alike, apart_at, kin, separating_round, shares
 from namelessly.webs import Web, beside, copies, renamed
-from tests.support import Checks, odd_values, path, plain_rounds, random_webs, ring
+from tests.support import Checks, odd_values, path, plain_kin, plain_rounds, plain_shares, random_webs, ring
 
 KS = list(range(7)) + [16]
-
-
-def plain_shares(one, other, k):
-    first, last = plain_rounds([one, other], k)[k]
-    return [(first.count(number), last.count(number)) for number in range(max(first + last) + 1)]
-
-
-def plain_kin(one, other, k):
-    return all(n * len(other) == m * len(one) for n, m in plain_shares(one, other, k))
 
 
 def some_pairs():

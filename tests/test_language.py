@@ -213,6 +213,9 @@ class LanguageTest(unittest.TestCase):
                 self.assertNotIn("%", node.value, where)
         for where, node in self.nodes((ast.Div, ast.MatMult)):
             self.fail(f"{where}: no such sign")
+        for where, node in self.nodes(ast.BinOp):
+            if isinstance(node.op, ast.Pow):
+                self.assertIsInstance(node.right, ast.Constant, where)
         for where, node in self.nodes(ast.Compare):
             for sign, side in zip(node.ops, node.comparators):
                 if isinstance(sign, (ast.Is, ast.IsNot)):
