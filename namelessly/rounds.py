@@ -37,6 +37,21 @@ def all_ends(webs):
     return ends
 
 
+def kind_ends(web):
+    """The dict from each kind to the list, place by place, of (place in the row, width) of its ties of this kind."""
+    numbers = {name: at for at, name in enumerate(web.places())}
+    ends = {kind: [[] for _ in range(len(web))] for kind in web.kinds()}
+    for one, other, kind, width in web.ties():
+        ends[kind][numbers[one]].append((numbers[other], width))
+        ends[kind][numbers[other]].append((numbers[one], width))
+    return ends
+
+
+def summed(ends, row):
+    """Place by place the sum of what a row of numbers has at the ends of its ties, times their widths."""
+    return [sum([width * row[place] for place, width in mine]) for mine in ends]
+
+
 def sums_key(classes, ends):
     """The sums of a place's widths, kind by kind and class by class, as a tuple that sorts as the whole row does.
 

@@ -220,3 +220,109 @@ def plain_shares(one, other, k):
 
 def plain_kin(one, other, k):
     return all(n * len(other) == m * len(one) for n, m in plain_shares(one, other, k))
+
+
+def expanded(tree):
+    """The root of a tree: a knot is a tuple (colour, ascending tuple of (kind, knot), each as often as it is there)."""
+    made = []
+    for colour, parts in tree:
+        made.append((colour, tuple(sorted((kind, made[number]) for kind, number, times in parts for _ in range(times)))))
+    return made[-1]
+
+
+def count_knots(knot):
+    return 1 + sum(count_knots(below) for _, below in knot[1])
+
+
+def measure(knot):
+    """The height of a knot."""
+    return max([measure(below) + 1 for _, below in knot[1]], default=0)
+
+
+def plain_lays(web, place, knot):
+    """How often the tree of a knot lays at a place, word by word as point 6.4 tells it."""
+    if web.colour(place) != knot[0]:
+        return 0
+    often = 1
+    for kind, below in knot[1]:
+        often *= sum(web.width(place, r, kind) * plain_lays(web, r, below) for r in web.places()
+                     if web.width(place, r, kind))
+    return often
+
+
+def plain_lines_of(knot):
+    """The plain form of the tree of a knot, word by word as point 6.3 tells it."""
+    waiting, found = [knot], []
+    while waiting:
+        one = waiting.pop()
+        if one not in found:
+            found.append(one)
+            waiting.extend(below for _, below in one[1])
+    lines, number_of = [], {}
+    for high in range(measure(knot) + 1):
+        made = []
+        for one in found:
+            if measure(one) == high:
+                spots = sorted((kind, number_of[below]) for kind, below in one[1])
+                made.append(((one[0], tuple(spot + (spots.count(spot),) for spot in sorted(set(spots)))), one))
+        for line, one in sorted(made):
+            number_of[one] = len(lines)
+            lines.append(line)
+    return tuple(lines)
+
+
+def random_tree(source, most_lines=6, most_knots=14, colours="xyz", kinds=("k", "l"), most_times=3):
+    """A tree as callers make up, seldom in plain form."""
+    while True:
+        lines, many = [], []
+        for at in range(source.randint(1, most_lines)):
+            spots = [(kind, number) for kind in kinds for number in range(at) if source.random() < 0.5]
+            parts = tuple((kind, number, source.randint(1, most_times)) for kind, number in spots)
+            lines.append((source.choice(colours), parts))
+            many.append(1 + sum(times * many[number] for _, number, times in parts))
+        used = {number for _, parts in lines for _, number, _ in parts}
+        if len(used) == len(lines) - 1 and many[-1] <= most_knots:
+            return tuple(lines)
+
+
+def plain_truth(web, saying, place, at=-1):
+    """Whether a line of a saying holds at a place, word by word as point 7.2 tells it."""
+    line = saying[at]
+    if line[0] == "is":
+        return web.colour(place) == line[1]
+    if line[0] == "not":
+        return not plain_truth(web, saying, place, line[1])
+    if line[0] == "all":
+        return all(plain_truth(web, saying, place, number) for number in line[1])
+    return line[1] <= sum(web.width(place, r, line[2]) for r in web.places()
+                          if web.width(place, r, line[2]) and plain_truth(web, saying, r, line[3]))
+
+
+def plain_depth(saying, at=-1):
+    line = saying[at]
+    if line[0] == "is":
+        return 0
+    if line[0] == "all":
+        return max([plain_depth(saying, number) for number in line[1]], default=0)
+    return plain_depth(saying, line[-1]) + (1 if line[0] == "some" else 0)
+
+
+def random_saying(source, most=8, colours="xyz", kinds=("k", "l"), widest=3):
+    """A saying as callers make up."""
+    while True:
+        lines = []
+        for at in range(source.randint(1, most)):
+            form = source.choice(["is", "not", "all", "some", "some"]) if at else source.choice(["is", "is", "all"])
+            if form == "is":
+                lines.append(("is", source.choice(colours)))
+            elif form == "not":
+                lines.append(("not", source.randrange(at)))
+            elif form == "all":
+                lines.append(("all", tuple(number for number in range(at) if source.random() < 0.5)))
+            else:
+                lines.append(("some", source.randint(1, widest), source.choice(kinds), source.randrange(at)))
+        named = set()
+        for line in lines:
+            named |= set(line[1]) if line[0] == "all" else set() if line[0] == "is" else {line[-1]}
+        if named | {len(lines) - 1} == set(range(len(lines))):
+            return tuple(lines)

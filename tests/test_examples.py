@@ -90,6 +90,54 @@ namelessly.errors.TooMany
 [((1, 0, 0, 1, 0, 0), (0, 1, 0, 0, 1, 0), (0, 0, 1, 0, 0, 1)), None, ([0, 1, 2], [0, 1, 2, 0, 1, 2])]
 >>> [weights_behind(X, turned_over(X)), lessened(weights_behind(X, turned_over(X))), added_weights(X, X)[0]]
 [((2, 0, 0), (0, 2, 0), (0, 0, 2)), ((1, 0, 0), (0, 1, 0), (0, 0, 1)), (2, 0, 0, 2, 0, 0)]
+
+>>> from namelessly.trees import cut_tree, height, knots, lays, lays_into, plain_tree, planted, put_together
+>>> from namelessly.webs import Web
+>>> fork = (("w", ()), ("w", (("t", 0, 2),)))
+>>> [knots(fork), height(fork), planted("r", "t", fork), cut_tree(planted("r", "t", fork), 1)]
+[3, 1, (('w', ()), ('w', (('t', 0, 2),)), ('r', (('t', 1, 1),))), (('w', ()), ('r', (('t', 0, 1),)))]
+>>> plain_tree((("w", ()), ("r", ()), ("w", ()), ("w", (("s", 0, 1), ("t", 0, 1), ("t", 1, 2), ("t", 2, 3)))))
+(('r', ()), ('w', ()), ('w', (('s', 1, 1), ('t', 0, 2), ('t', 1, 4))))
+>>> put_together(fork, (("r", ()), ("w", (("t", 0, 1),))))
+(('r', ()), ('w', ()), ('w', (('t', 0, 1), ('t', 1, 2))))
+>>> path = Web([("a", "w"), ("b", "w"), ("c", "w")], [("a", "b", "t", 1), ("b", "c", "t", 2)])
+>>> [lays(path, "a", fork), lays(path, "b", fork), lays_into(path, fork), put_together(fork, planted("r", "t", fork))]
+[1, 9, 14, None]
+
+>>> from namelessly.bases import base, judge_tree, judge_tree_between, separating_tree, tree_between
+>>> star = Web([("a", "w"), ("b", "w"), ("c", "w"), ("d", "w")], [("a", "b", "t", 1), ("a", "c", "t", 1), ("a", "d", "t", 1)])
+>>> ring = Web([("a", "w"), ("b", "w"), ("c", "w"), ("d", "w")], [("a", "b", "t", 1), ("b", "c", "t", 1), ("a", "c", "t", 1)])
+>>> base(star, ring, 1)
+[(('w', ()),), (('w', ()), ('w', (('t', 0, 1),))), (('w', ()), ('w', (('t', 0, 2),))), (('w', ()), ('w', (('t', 0, 3),)))]
+>>> [judge_tree(star, ring, separating_tree(star, ring), 1), separating_tree(star, star)]
+[None, None]
+>>> [judge_tree(star, ring, (('w', ()), ('w', (('t', 0, 3),))), 1), judge_tree(star, ring, fork, 1), judge_tree(star, ring, fork, 0)]
+[None, ('equal', 12, 12), ('height', 1)]
+>>> [judge_tree_between(star, "a", ring, "b", tree_between(star, "a", ring, "b"), 1), tree_between(star, "b", star, "c")]
+[None, None]
+>>> [judge_tree_between(star, "b", ring, "d", fork, 1), judge_tree_between(star, "b", star, "c", fork, 1), judge_tree(star, ring, (), 1)]
+[None, ('equal', 1), ('form',)]
+
+>>> from namelessly.webs import Web
+>>> from namelessly.sayings import depth, holds_at, said_at
+>>> path = Web([("a", "red"), ("b", "red"), ("c", "blue")], [("a", "b", "x", 1), ("b", "c", "x", 2)])
+>>> saying = (("is", "red"), ("some", 2, "x", 0), ("not", 1), ("all", (0, 2)))
+>>> (holds_at(path, saying), said_at(path, "b", saying), depth(saying))
+(['a', 'b'], True, 1)
+>>> holds_at(path, (("is", "blue"), ("some", 2, "x", 0)))
+['b']
+>>> (holds_at(path, (("all", ()),)), holds_at(path, (("is", "green"),)))
+(['a', 'b', 'c'], [])
+
+>>> from namelessly.webs import Web
+>>> from namelessly.saidof import judge_saying, separating_saying
+>>> three = Web([("a", "red"), ("b", "red"), ("c", "red")], [("a", "b", "x", 1), ("b", "c", "x", 1)])
+>>> four = Web([("a", "red"), ("b", "red"), ("c", "red"), ("d", "red")], [("a", "b", "x", 1), ("b", "c", "x", 1), ("c", "d", "x", 1)])
+>>> two = (("is", "red"), ("some", 2, "x", 0))
+>>> (judge_saying(three, four, two, 1), judge_saying(three, four, two, 0), judge_saying(three, four, two[:1], 1), judge_saying(three, four, (), 1))
+(None, ('deep', 1), ('same', 3, 4), ('form',))
+>>> separating_saying(three, three) is None
+True
 '''
 
 

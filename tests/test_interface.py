@@ -35,6 +35,23 @@ FUNCTIONS = {
         "turned_over(table)", "added_weights(first, last)", "lessened(table)", "colours_of(table)",
         "weights_of_over(one, other, over)",
     ],
+    "trees": [
+        "need_tree(value)", "plain_tree(tree)", "knots(tree)", "height(tree)", "lays(web, place, tree)",
+        "lays_into(web, tree)", "put_together(one, other)", "planted(colour, kind, tree)", "cut_tree(tree, high)",
+    ],
+    "bases": [
+        "base(one, other, k, *, most_knots=60)", "separating_tree(one, other, *, most_knots=60)",
+        "tree_between(one, p, other, q, *, most_knots=60)", "judge_tree(one, other, value, h)",
+        "judge_tree_between(one, p, other, q, value, h)",
+    ],
+    "sayings": [
+        "holds_at(web, saying)", "said_at(web, name, saying)", "depth(saying)", "denied(saying)", "all_of(sayings)",
+        "either_of(sayings)", "some_of(n, kind, saying)", "tidied(saying)",
+    ],
+    "saidof": [
+        "saying_of(webs, place, k)", "separating_saying(one, other)", "saying_between(one, p, other, q)",
+        "judge_saying(one, other, value, h)", "judge_saying_between(one, p, other, q, value, h)",
+    ],
 }
 METHODS = {
     ("webs", "Web"): [
