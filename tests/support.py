@@ -326,3 +326,48 @@ def random_saying(source, most=8, colours="xyz", kinds=("k", "l"), widest=3):
             named |= set(line[1]) if line[0] == "all" else set() if line[0] == "is" else {line[-1]}
         if named | {len(lines) - 1} == set(range(len(lines))):
             return tuple(lines)
+
+
+def plain_heard(web, letters, place):
+    """What a place hears, word by word as point 8.1 tells it; letters is a dict from places to letters."""
+    heard = []
+    for kind in sorted({tie[2] for tie in web.ties()}):
+        for letter in sorted(set(letters.values())):
+            total = sum(web.width(place, r, kind) for r in web.places() if letters[r] == letter)
+            if total > 0:
+                heard.append((kind, letter, total))
+    return tuple(heard)
+
+
+def plain_run(web, machine):
+    """The lists of the letters of the places, round by round, word by word as point 8.1 tells them."""
+    told = [[web.colour(p) for p in web.places()]]
+    for rules in machine:
+        letters = dict(zip(web.places(), told[-1]))
+        row = []
+        for p in web.places():
+            new = [rule[2] for rule in rules if rule[:2] == (letters[p], plain_heard(web, letters, p))]
+            row.append(new[0] if new else "")
+        told.append(row)
+    return told
+
+
+def random_machine(source, webs, many, letters=("", "a", "b", "c"), kept=0.8):
+    """A machine of many rounds for these webs; some of what their places hear has no rule, some rules are for nothing."""
+    machine = []
+    for _ in range(many):
+        spots = set()
+        for web in webs:
+            row = dict(zip(web.places(), plain_run(web, machine)[-1]))
+            spots |= {(row[p], plain_heard(web, row, p)) for p in web.places() if source.random() < kept}
+        if source.random() < 0.5:
+            spots.add((source.choice(letters), (("k", "", 1), ("k", "a", 2), ("l", "", source.randint(1, 20)))))
+        rules = [spot + (source.choice(letters),) for spot in sorted(spots)]
+        source.shuffle(rules)
+        machine.append(tuple(rules))
+    return tuple(machine)
+
+
+def parted(row):
+    """Which places of a row have something in common: the list of the sets of the numbers of the places."""
+    return sorted(sorted(at for at, part in enumerate(row) if part == one) for one in set(row))

@@ -138,6 +138,41 @@ namelessly.errors.TooMany
 (None, ('deep', 1), ('same', 3, 4), ('form',))
 >>> separating_saying(three, three) is None
 True
+
+>>> from namelessly.machines import judge_class_machine, judge_machine, letter_counts, run, run_rounds, separating_machine
+>>> from namelessly.webs import Web
+>>> PATH = Web([("a", "x"), ("b", "x"), ("c", "x")], [("a", "b", "k", 1), ("b", "c", "k", 1)])
+>>> RING = Web([("a", "x"), ("b", "x"), ("c", "x")], [("a", "b", "k", 1), ("b", "c", "k", 1), ("c", "a", "k", 1)])
+>>> ENDS = ((("x", (("k", "x", 1),), "end"), ("x", (("k", "x", 2),), "mid")),)
+>>> [run(PATH, ENDS), run_rounds(RING, ENDS), letter_counts(PATH, ENDS), run(PATH, ((), ()))]
+[['end', 'mid', 'end'], [['x', 'x', 'x'], ['mid', 'mid', 'mid']], {'end': 2, 'mid': 1}, ['', '', '']]
+>>> [judge_machine(PATH, RING, ENDS, 1), judge_machine(PATH, RING, ENDS, 0), judge_machine(RING, RING, ENDS, 1), judge_machine(PATH, RING, None, 0)]
+[None, ('rounds', 1), ('shares',), ('form',)]
+>>> [len(separating_machine(PATH, RING)), separating_machine(RING, RING)]
+[1, None]
+>>> [judge_class_machine([PATH, RING], 1, ENDS), judge_class_machine([PATH, RING], 1, ((),)), judge_class_machine([PATH], 0, ())]
+[None, ('places', (0, 'a'), (0, 'b')), None]
+
+>>> from namelessly.wishes import alike_pair, fewest_marks, first_machine, first_places, judge_wish, marked, wish_machine
+>>> [wish_machine([PATH], [(0, "a", "l"), (0, "b", "l"), (0, "c", "r")]), judge_wish([PATH], [(0, "a", "end"), (0, "b", "mid")], ("machine", ENDS))]
+[('alike', 0, 2), None]
+>>> [judge_wish([PATH], [(0, "a", "l")], ("machine", ENDS)), judge_wish([PATH], [(0, "a", "l"), (0, "b", "r")], ("alike", 0, 1))]
+[('letter', 0), ('apart',)]
+>>> [first_places(PATH), first_places(RING), first_machine(PATH, "a"), alike_pair(PATH, ["b"]), alike_pair(PATH, ["c"]), len(fewest_marks(PATH)), len(fewest_marks(RING))]
+[['b'], [], None, ('a', 'c'), None, 1, 2]
+>>> marked(PATH, ["c", "a"]).colour("a")
+'m1'
+
+>>> from namelessly.webs import Web
+>>> from namelessly.changes import merged_kinds, moving_product, product, taken_out, times, widened, with_tie
+>>> tie = Web([("a", "x"), ("b", "y")], [("a", "b", "k", 1)])
+>>> [with_tie(tie, "b", "a", "l", 2).ties(), widened(tie, "b", "a", "k", 2).ties(), merged_kinds(with_tie(tie, "a", "b", "l", 2), "l", "k").ties()]
+[[('a', 'b', 'k', 1), ('a', 'b', 'l', 2)], [('a', 'b', 'k', 3)], [('a', 'b', 'k', 3)]]
+>>> pairs = {("x", "x"): "m0", ("x", "y"): "m1", ("y", "x"): "m1", ("y", "y"): "m2"}
+>>> [product(tie, times(tie, "k", 3), pairs).ties(), moving_product(tie, tie, pairs).ties()]
+[[('p0', 'p3', 'k', 3), ('p1', 'p2', 'k', 3)], [('p0', 'p1', 'k', 1), ('p0', 'p2', 'k', 1), ('p1', 'p3', 'k', 1), ('p2', 'p3', 'k', 1)]]
+>>> taken_out([tie, tie], 0)[1].places()
+['b']
 '''
 
 

@@ -52,6 +52,22 @@ FUNCTIONS = {
         "saying_of(webs, place, k)", "separating_saying(one, other)", "saying_between(one, p, other, q)",
         "judge_saying(one, other, value, h)", "judge_saying_between(one, p, other, q, value, h)",
     ],
+    "machines": [
+        "is_machine(value)", "run(web, machine)", "run_rounds(web, machine)", "letter_counts(web, machine)",
+        "separating_machine(one, other)", "judge_machine(one, other, value, h)", "class_machine(webs, k)",
+        "judge_class_machine(webs, k, value)",
+    ],
+    "wishes": [
+        "wish_machine(webs, wish)", "judge_wish(webs, wish, value)", "first_places(web)", "first_machine(web, name)",
+        "marked(web, names)", "alike_pair(web, names)", "fewest_marks(web)",
+    ],
+    "changes": [
+        "with_tie(web, one, other, kind, width)", "without_tie(web, one, other, kind)",
+        "widened(web, one, other, kind, more)", "times(web, kind, many)", "struck(web, kind)",
+        "merged_kinds(web, kind, into)", "mapped_colours(web, colours)",
+        "product(one, other, colours, *, most_places=240)", "moving_product(one, other, colours, *, most_places=240)",
+        "taken_out(webs, number)",
+    ],
 }
 METHODS = {
     ("webs", "Web"): [
