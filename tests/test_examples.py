@@ -173,6 +173,42 @@ True
 [[('p0', 'p3', 'k', 3), ('p1', 'p2', 'k', 3)], [('p0', 'p1', 'k', 1), ('p0', 'p2', 'k', 1), ('p1', 'p3', 'k', 1), ('p2', 'p3', 'k', 1)]]
 >>> taken_out([tie, tie], 0)[1].places()
 ['b']
+
+>>> from namelessly.ledtables import beside_table, copied_table, product_table
+>>> [copied_table(((1,),), 2), product_table(((1, 0), (0, 1)), ((2,),)), beside_table(((2,),), ((1, 1), (1, 1)))]
+[((1, 1), (1, 1)), ((2, 0), (0, 2)), ((2, 0, 0), (0, 1, 1), (0, 1, 1))]
+
+>>> from namelessly.office import Office
+>>> from namelessly.webs import Web
+>>> HALL = Office()
+>>> [HALL.do(("open", "g", "a", "x")), HALL.do(("come", "g", "b", "x")), HALL.do(("tie", "g", "a", "b", "k", 1)), HALL.do(("want", "g", "a", "first"))]
+[1, 2, 3, 4]
+>>> [HALL.web("g") == Web([("a", "x"), ("b", "x")], [("a", "b", "k", 1)]), HALL.wanted("g"), HALL.webs(), HALL.undo(), HALL.wanted("g"), HALL.redo()]
+[True, [('a', 'first')], ['g'], 3, [], 4]
+>>> [HALL.branch("side"), HALL.go("side"), HALL.do(("colour", "g", "b", "y")), HALL.go("main"), HALL.do(("come", "g", "c", "x")), HALL.merge("side"), HALL.web("g").colour("b")]
+[None, 4, 5, 4, 6, 7, 'y']
+>>> [HALL.log()[4:], HALL.trail("main"), HALL.mark("main"), len(HALL)]
+[[(4, ('colour', 'g', 'b', 'y')), (4, ('come', 'g', 'c', 'x')), (6, ('merge', 5))], [0, 1, 2, 3, 4, 6, 7], 6, 8]
+
+>>> from namelessly.branches import clashes, elders, last_common, line_to, tried
+>>> [elders(HALL, 7), last_common(HALL, 5, 6), clashes(HALL, 5, 6), line_to(HALL, 2)]
+[[0, 1, 2, 3, 4, 5, 6, 7], 4, [], [('open', 'g', 'a', 'x'), ('come', 'g', 'b', 'x')]]
+>>> [tried(HALL, [("close", "g"), ("open", "g", "d", "z")]), HALL.webs(), HALL.wanted("g")]
+[[8, 9], ['g'], []]
+
+>>> from namelessly.office import Office
+>>> from namelessly.watching import barred_webs, changes, first_turn, steady_from, verdict, verdict_line, verdicts, would_change
+>>> PAIR = Office()
+>>> [PAIR.do(deed) for deed in [("open", "g", "a", "x"), ("open", "h", "a", "x"), ("come", "h", "b", "x"), ("come", "g", "b", "x"), ("tie", "h", "a", "b", "k", 1)]]
+[1, 2, 3, 4, 5]
+>>> [verdict(PAIR, 4, "g", "h"), verdicts(PAIR, 5), verdict_line(PAIR, "g", "h"), steady_from(PAIR, "g", "h")]
+['kin', [('g', 'h', 1)], [None, None, 'kin', 'kin', 'kin', 1], 5]
+>>> [would_change(PAIR, ("untie", "h", "a", "b", "k")), would_change(PAIR, ("close", "g")), changes(PAIR, 0, 1), changes(PAIR, 4, 5)]
+[[('g', 'h', 1, 'kin')], [('g', 'h', 1, None)], [], [('g', 'h', 'kin', 1)]]
+>>> first_turn(PAIR, "g", "h", [("come", "g", "c", "x"), ("go", "g", "c"), ("tie", "g", "a", "b", "k", 1)])
+2
+>>> [PAIR.do(("want", "h", "a", "left")), PAIR.do(("want", "h", "b", "right")), barred_webs(PAIR, 7), barred_webs(PAIR, 6)]
+[6, 7, ['h'], []]
 '''
 
 

@@ -68,12 +68,33 @@ FUNCTIONS = {
         "product(one, other, colours, *, most_places=240)", "moving_product(one, other, colours, *, most_places=240)",
         "taken_out(webs, number)",
     ],
+    "ledtables": [
+        "copied_table(table, many)", "product_table(first, second)", "beside_table(first, second)",
+        "taken_out_table(one, other, table, number)",
+    ],
+    "branches": [
+        "elders(office, number)", "come_of(office, number)", "last_common(office, one, other)",
+        "line_to(office, number)", "clashes(office, one, other)", "attempt(office, action)", "tried(office, deeds)",
+    ],
+    "watching": [
+        "verdict(office, number, one, other)", "verdicts(office, number)", "verdict_paper(office, number, one, other)",
+        "judge_verdict(office, number, one, other, value)", "wish_of(office, number, names)",
+        "wish_result(office, number, names)", "barred_webs(office, number)", "changes(office, first, second)",
+        "would_change(office, deed)", "verdict_line(office, one, other)", "steady_from(office, one, other)",
+        "first_turn(office, one, other, deeds)",
+    ],
 }
 METHODS = {
     ("webs", "Web"): [
         "__init__(self, places, ties)", "places(self)", "colour(self, name)", "ties(self)", "kinds(self)",
         "colours(self)", "width(self, one, other, kind)", "__contains__(self, name)", "__len__(self)",
         "__eq__(self, other)",
+    ],
+    ("office", "Office"): [
+        "__init__(self)", "do(self, deed)", "undo(self)", "redo(self)", "web(self, name)", "wanted(self, name)",
+        "webs(self)", "moment(self, number)", "now(self)", "present(self)", "log(self)", "branch(self, name)",
+        "go(self, name)", "here(self)", "branches(self)", "trail(self, name)", "mark(self, name)", "merge(self, name)",
+        "twin(self)", "__len__(self)", "__eq__(self, other)",
     ],
 }
 

@@ -124,13 +124,32 @@ class LanguageTest(unittest.TestCase):
             for node in tree.body[1:]:
                 self.assertIsInstance(node, (ast.ImportFrom, ast.FunctionDef, ast.ClassDef, ast.Assign), name)
                 if isinstance(node, ast.Assign):
-                    self.assertIsInstance(ast.literal_eval(node.value), (int, str, tuple, type(None)), name)
+                    self.check_plain(node.value, bound, name)
                     bound.extend(target.id for target in node.targets)
                 elif isinstance(node, ast.ImportFrom):
                     bound.extend(alias.name for alias in node.names)
                 else:
                     bound.append(node.name)
             self.assertEqual(len(bound), len(set(bound)), name)
+
+    def check_plain(self, node, bound, name):
+        """A plain value, or a dict of such and of functions that are defined above."""
+        parts = node.values if isinstance(node, ast.Dict) else [node]
+        for part in (node.keys if isinstance(node, ast.Dict) else []) + parts:
+            if isinstance(part, ast.Name):
+                self.assertIn(part.id, bound, name)
+            else:
+                self.assertIsInstance(ast.literal_eval(part), (int, str, tuple, type(None)), name)
+
+    def test_finally(self):
+        for where, node in self.nodes(ast.Try):
+            for part in node.finalbody:
+                self.assertIsInstance(part, ast.Assign, where)
+                self.assertIsInstance(part.value, (ast.Name, ast.Attribute), where)
+                self.assertIsInstance(part.targets[0], (ast.Name, ast.Attribute), where)
+            for handler in node.handlers:
+                self.assertIsInstance(handler.type, ast.Name, where)
+                self.assertNotIn(handler.type.id, PYTHONS_OWN, where)
 
     def test_imports(self):
         defined = {f"namelessly.{name[:-3]}": {part.name for part in tree.body if hasattr(part, "name")}
