@@ -1,15 +1,7 @@
 """How the moments of an office hang together, and attempts."""
 
-from namelessly.errors import NoMoment
-from namelessly.helpers import is_number
 from namelessly.merging import clash_spots, elders_in, last_common_in
-
-
-def need_moments(office, numbers):
-    """Raises NoMoment for the first of these values that is not the number of a moment."""
-    for number in numbers:
-        if not is_number(number, 0) or number >= len(office):
-            raise NoMoment(number)
+from namelessly.office import need_moments
 
 
 def elders(office, number):

@@ -1,9 +1,9 @@
 """Changes: deeds on one tie, and what changes all ties or places of webs alike."""
 
-from namelessly.errors import BadName, BadNumber, BadTie, TooMany, UnknownName
-from namelessly.helpers import is_integer, is_number, is_word
+from namelessly.errors import BadNumber, BadTie, TooMany, UnknownName
+from namelessly.helpers import is_index, is_integer, is_number
 from namelessly.rounds import settled
-from namelessly.webs import Web, need_names, tie_spot, within
+from namelessly.webs import Web, need_names, need_word, tie_spot, within
 
 
 def colour_pairs(web):
@@ -30,7 +30,6 @@ def with_tie(web, one, other, kind, width):
 
 def width_there(web, one, other, kind):
     """The width of the tie of this kind between two places, of which there has to be one."""
-    need_names(web, [one, other])
     width = web.width(one, other, kind)
     if width == 0:
         raise BadTie(0)
@@ -66,8 +65,7 @@ def struck(web, kind):
 
 def merged_kinds(web, kind, into):
     """The web in which the ties of one kind are of another one instead."""
-    if not is_word(into):
-        raise BadName(into)
+    need_word(into)
     widths = {}
     for one, other, old, width in web.ties():
         spot = (one, other, into if old == kind else old)
@@ -78,8 +76,7 @@ def merged_kinds(web, kind, into):
 def mapped_colours(web, colours):
     """The web in which each colour that is a key of a dict is the new one there instead."""
     for colour in sorted(colours):
-        if not is_word(colours[colour]):
-            raise BadName(colours[colour])
+        need_word(colours[colour])
     return Web([(name, colours.get(colour, colour)) for name, colour in colour_pairs(web)], web.ties())
 
 
@@ -90,8 +87,7 @@ def product_places(one, other, colours, most_places):
         if pair not in colours:
             raise UnknownName(pair)
     for pair in pairs:
-        if not is_word(colours[pair]):
-            raise BadName(colours[pair])
+        need_word(colours[pair])
     if len(pairs) > most_places:
         raise TooMany()
     return [(f"p{at}", colours[pair]) for at, pair in enumerate(pairs)]
@@ -131,7 +127,7 @@ def moving_product(one, other, colours, *, most_places=240):
 def taken_out(webs, number):
     """The list of the webs without their places of one settled class."""
     colouring = settled(webs)
-    if not is_number(number, 0) or number > max([max(classes) for classes in colouring]):
+    if not is_index(number, 1 + max([max(classes) for classes in colouring])):
         raise BadNumber(number)
     left = []
     for web, classes in zip(webs, colouring):

@@ -5,19 +5,13 @@ dict from places to letters. Such a dict is never changed; a deed makes a new on
 """
 
 from namelessly.changes import with_width
-from namelessly.errors import BadDeed, BadName, BadTie, TooMany, TwiceTold, UnknownName
-from namelessly.helpers import is_number, is_word
-from namelessly.webs import Web, coloured, need_names, within
+from namelessly.errors import BadDeed, BadTie, TooMany, TwiceTold, UnknownName
+from namelessly.helpers import is_number
+from namelessly.webs import Web, coloured, need_names, need_word, within
 
 MOST_WEBS = 6
 MOST_PLACES = 12
 MOST_MOMENTS = 200
-
-
-def need_word(value):
-    """Raises BadName for a value that is no word."""
-    if not is_word(value):
-        raise BadName(value)
 
 
 def web_there(moment, name):

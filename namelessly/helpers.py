@@ -24,6 +24,11 @@ def is_number(value, least):
     return is_integer(value) and value >= least
 
 
+def is_index(value, many):
+    """Whether a value is the number of one of so many things, counted from 0; True and False are none."""
+    return is_number(value, 0) and value < many
+
+
 def kept(value):
     """An equal value that shares no list and no dict with this one."""
     if isinstance(value, list):

@@ -2,7 +2,7 @@
 
 from namelessly.deeds import after, need_room, web_there
 from namelessly.errors import BadName, Clash, NoMoment, NothingDone, TooMany, UnknownName
-from namelessly.helpers import is_number, is_word
+from namelessly.helpers import is_index, is_word
 from namelessly.merging import clash_spots, elders_in, last_common_in, merged_moment
 
 MOST_BRANCHES = 6
@@ -58,6 +58,13 @@ class Book:
         return [self.entries, [(name, self.trails[name], self.marks[name]) for name in self.trails], self.standing]
 
 
+def need_moments(office, numbers):
+    """Raises NoMoment for the first of these values that is not the number of a moment."""
+    for number in numbers:
+        if not is_index(number, len(office)):
+            raise NoMoment(number)
+
+
 def wanted_pairs(web, wanted):
     """The list of the pairs (place, letter) of wanted letters, in the order of the places."""
     return [(place, wanted[place]) for place in web.places() if place in wanted]
@@ -107,8 +114,7 @@ class Office:
 
     def moment(self, number):
         """The list of the tuples (name, web, wanted) of a moment, by name."""
-        if not is_number(number, 0) or number >= len(self.book.moments):
-            raise NoMoment(number)
+        need_moments(self, [number])
         moment = self.book.moments[number]
         return [(name, moment[name][0], wanted_pairs(moment[name][0], moment[name][1])) for name in sorted(moment)]
 

@@ -1,7 +1,7 @@
 """What can be said of classes of places, and sayings that separate."""
 
 from namelessly.errors import BadNumber, UnknownName
-from namelessly.helpers import is_number
+from namelessly.helpers import is_index
 from namelessly.kin import apart_at, class_shares, separating_round, two_spots
 from namelessly.rounds import class_rows, kind_ends
 from namelessly.sayings import Lines, depths, holds_at, said_at, wrong_saying_line
@@ -83,7 +83,7 @@ def class_saying(webs, at, k):
 def saying_of(webs, place, k):
     """A saying of depth at most k that holds, in a list of webs, just at the places of one class of round k."""
     number, name = place
-    if not is_number(number, 0) or number >= len(webs):
+    if not is_index(number, len(webs)):
         raise BadNumber(number)
     if name not in webs[number]:
         raise UnknownName(name)

@@ -1,18 +1,14 @@
 """Sayings: what can be said of a place by counting among its neighbours."""
 
-from namelessly.errors import BadName, BadNumber, BadSaying, UnknownName
-from namelessly.helpers import is_number, is_word
+from namelessly.errors import BadNumber, BadSaying, UnknownName
+from namelessly.helpers import is_index, is_number, is_word
 from namelessly.rounds import kind_ends, summed
-
-
-def names_earlier(value, at):
-    """Whether a value is the number of a line ahead of line number at."""
-    return is_number(value, 0) and value < at
+from namelessly.webs import need_word
 
 
 def names_ascending(value, at):
     """Whether a value is a tuple of numbers of lines ahead of line number at, each greater than the one before."""
-    if not isinstance(value, tuple) or not all([names_earlier(number, at) for number in value]):
+    if not isinstance(value, tuple) or not all([is_index(number, at) for number in value]):
         return False
     return all([number < behind for number, behind in zip(value, value[1:])])
 
@@ -25,11 +21,11 @@ def is_saying_line(value, at):
     if form == ("is", 2):
         return is_word(value[1])
     if form == ("not", 2):
-        return names_earlier(value[1], at)
+        return is_index(value[1], at)
     if form == ("all", 2):
         return names_ascending(value[1], at)
     if form == ("some", 4):
-        return is_number(value[1], 1) and is_word(value[2]) and names_earlier(value[3], at)
+        return is_number(value[1], 1) and is_word(value[2]) and is_index(value[3], at)
     return False
 
 
@@ -196,8 +192,7 @@ def some_of(n, kind, saying):
     """A saying that holds where at least so much width of this kind leads to places at which this one holds."""
     if not is_number(n, 1):
         raise BadNumber(n)
-    if not is_word(kind):
-        raise BadName(kind)
+    need_word(kind)
     need_saying(saying)
     lines = Lines()
     return lines.saying(lines.line_number(("some", n, kind, lines.last_number(saying))))

@@ -1,8 +1,9 @@
 """Trees of knots, written as lines, and how often they lay at the places of a web."""
 
-from namelessly.errors import BadName, BadNumber, BadTree, TooMany, UnknownName
-from namelessly.helpers import is_number, is_word
+from namelessly.errors import BadNumber, BadTree, TooMany, UnknownName
+from namelessly.helpers import is_index, is_number, is_word
 from namelessly.rounds import kind_ends, summed
+from namelessly.webs import need_word
 
 MOST_KNOTS = 200
 
@@ -12,7 +13,7 @@ def is_part(value, at):
     if not isinstance(value, tuple) or len(value) != 3:
         return False
     kind, number, times = value
-    return is_word(kind) and is_number(number, 0) and number < at and is_number(times, 1)
+    return is_word(kind) and is_index(number, at) and is_number(times, 1)
 
 
 def is_tree_line(value, at):
@@ -168,8 +169,7 @@ def put_together(one, other):
 def planted(colour, kind, tree):
     """The tree whose root has this colour and, by this kind, a tree once below it."""
     for name in (colour, kind):
-        if not is_word(name):
-            raise BadName(name)
+        need_word(name)
     need_tree(tree)
     if knots(tree) + 1 > MOST_KNOTS:
         raise TooMany()

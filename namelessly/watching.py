@@ -1,11 +1,10 @@
 """Watching an office: what is to be told of its webs, and how that changes from moment to moment."""
 
-from namelessly.branches import need_moments
 from namelessly.deeds import web_there
-from namelessly.errors import TwiceTold
 from namelessly.kin import separating_round
 from namelessly.machines import judge_machine, separating_machine
-from namelessly.office import wanted_pairs
+from namelessly.office import need_moments, wanted_pairs
+from namelessly.webs import need_once
 from namelessly.weights import judge_weights, weight_table
 from namelessly.wishes import wish_machine
 
@@ -76,11 +75,7 @@ def judge_verdict(office, number, one, other, value):
 def wish_of(office, number, names):
     """The list of the webs of these names and their wish."""
     webs = webs_there(office, number, names)
-    told = set()
-    for name in names:
-        if name in told:
-            raise TwiceTold(name)
-        told.add(name)
+    need_once(names)
     wish = []
     for at, name in enumerate(names):
         web, wanted = office.book.moments[number][name]

@@ -4,20 +4,29 @@ from namelessly.errors import BadName, BadNumber, BadTie, TooMany, TwiceTold, Un
 from namelessly.helpers import is_number, is_word
 
 
+def need_word(value):
+    """Raises BadName for a value that is no word."""
+    if not is_word(value):
+        raise BadName(value)
+
+
+def need_once(names):
+    """Raises TwiceTold for the first of these names that equals an earlier one."""
+    told = set()
+    for name in names:
+        if name in told:
+            raise TwiceTold(name)
+        told.add(name)
+
+
 def need_places(places):
     """Raises the first error that the places of a web give; none may be hashed ahead of its check."""
     if len(places) == 0:
         raise BadNumber(0)
     for name, colour in places:
-        if not is_word(name):
-            raise BadName(name)
-        if not is_word(colour):
-            raise BadName(colour)
-    told = set()
-    for name, _ in places:
-        if name in told:
-            raise TwiceTold(name)
-        told.add(name)
+        need_word(name)
+        need_word(colour)
+    need_once([name for name, _ in places])
 
 
 def tie_spot(tie, names):

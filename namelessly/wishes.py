@@ -3,17 +3,17 @@
 from itertools import combinations
 
 from namelessly.errors import BadNumber, TwiceTold, UnknownName
-from namelessly.helpers import is_number
+from namelessly.helpers import is_index
 from namelessly.machines import class_letters, is_letter, is_machine, run, taught_machine
 from namelessly.rounds import class_rows, need_webs, settled
-from namelessly.webs import coloured, need_names
+from namelessly.webs import coloured, need_names, need_once
 
 
 def is_entry(webs, entry):
     """Whether a value is a tuple (number of a web, anything, letter)."""
     if not isinstance(entry, tuple) or len(entry) != 3:
         return False
-    return is_number(entry[0], 0) and entry[0] < len(webs) and is_letter(entry[2])
+    return is_index(entry[0], len(webs)) and is_letter(entry[2])
 
 
 def need_wish(webs, wish):
@@ -80,7 +80,7 @@ def names_two_entries(wish, value):
     """Whether a value is a tuple ("alike", i, j) with the numbers i < j of two entries."""
     if len(value) != 3 or value[0] != "alike":
         return False
-    return is_number(value[1], 0) and is_number(value[2], 0) and value[1] < value[2] < len(wish)
+    return is_index(value[2], len(wish)) and is_index(value[1], value[2])
 
 
 def judge_wish(webs, wish, value):
@@ -127,11 +127,7 @@ def free_marks(web, many):
 def marked(web, names):
     """The web in which each place of a list has a new colour of its own."""
     need_names(web, names)
-    told = set()
-    for name in names:
-        if name in told:
-            raise TwiceTold(name)
-        told.add(name)
+    need_once(names)
     return coloured(web, dict(zip(names, free_marks(web, len(names)))))
 
 

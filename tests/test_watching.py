@@ -11,11 +11,11 @@ from namelessly.watching import (
     barred_webs, changes, first_turn, judge_verdict, steady_from, verdict, verdict_line, verdict_paper, verdicts,
     wish_of, wish_result, would_change,
 )
-from namelessly.webs import Web, copies
+from namelessly.webs import Web
 from namelessly.weights import judge_weights, weight_table
 from namelessly.wishes import judge_wish, wish_machine
 from tests.model import all_told, asked, played, random_deed
-from tests.support import Checks, odd_values, path, plain_kin, ring, strict
+from tests.support import Checks, odd_values, plain_kin, strict
 
 PAIR = [("open", "g", "a", "x"), ("open", "h", "a", "x"), ("come", "h", "b", "x"), ("come", "g", "b", "x"), ("tie", "h", "a", "b", "k", 1)]
 
