@@ -53,10 +53,6 @@ class Book:
         """The book in which the office stands in this branch."""
         return Book(self.moments, self.entries, self.trails, self.marks, name)
 
-    def counted(self):
-        """What two offices have to have in common to be equal."""
-        return [self.entries, [(name, self.trails[name], self.marks[name]) for name in self.trails], self.standing]
-
 
 def need_moments(office, numbers):
     """Raises NoMoment for the first of these values that is not the number of a moment."""
@@ -186,12 +182,13 @@ class Office:
 
     def _merged_with(self, second):
         """The moment that the present one and another one become."""
+        first = self._moment_now()
+        last = self.book.moments[second]
         elder = self.book.moments[last_common_in(self.book.entries, self.present(), second)]
-        both = (self._moment_now(), self.book.moments[second])
-        spots = clash_spots(both[0], both[1], elder)
+        spots = clash_spots(first, last, elder)
         if spots:
             raise Clash(tuple(spots))
-        return merged_moment(both[0], both[1], elder)
+        return merged_moment(first, last, elder)
 
     def __len__(self):
         return len(self.book.moments)
@@ -199,4 +196,7 @@ class Office:
     def __eq__(self, other):
         if not isinstance(other, Office):
             return False
-        return self.book.counted() == other.book.counted()
+        if self.book.entries != other.book.entries or self.book.standing != other.book.standing:
+            return False
+        # The branches count in the order in which they were made.
+        return list(self.book.trails.items()) == list(other.book.trails.items()) and self.book.marks == other.book.marks
